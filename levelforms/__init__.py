@@ -1,0 +1,1 @@
+"""Levels: their one form, which is at most which, and where two differ."""

@@ -1,0 +1,152 @@
+"""What the tests hold the program against: levels reckoned straight from the words, and plain searches.
+
+Nothing here uses the package but `ask`, so that no fault of it can hide in its own tests.
+"""
+
+import random
+
+from levelforms.house import answers
+
+LARGEST = 4294967295
+
+ZERO = (0,)
+
+
+def up(level, times=1):
+    return (1,) * times + level
+
+
+def most(first, second):
+    return (2,) + first + second
+
+
+def over(first, second):
+    return (3,) + first + second
+
+
+def var(number):
+    return (4, number)
+
+
+def begin(n):
+    return [0, n]
+
+
+def row_call(sign, *told):
+    row = [number for piece in told for number in piece]
+    return [sign, len(row)] + row
+
+
+def form(*told):
+    return row_call(1, *told)
+
+
+def leq(*told):
+    return row_call(2, *told)
+
+
+def same(*told):
+    return row_call(3, *told)
+
+
+def value(*told):
+    return row_call(4, *told)
+
+
+def split_answers(given):
+    split = []
+    place = 0
+    while place < len(given):
+        split.append(given[place + 1:place + 1 + given[place]])
+        assert len(split[-1]) == given[place] > 0
+        place += 1 + given[place]
+    return split
+
+
+def ask(*calls):
+    """The answer of each call, all of them on one house."""
+    return split_answers(answers([number for call in calls for number in call]))
+
+
+def ask_in(n, *calls):
+    """The same, with n variables."""
+    split = ask(begin(n), *calls)
+    assert split[0] == [0]
+    return split[1:]
+
+
+def reckon(level, values):
+    """A level's value, word by word."""
+    def walk(place):
+        sign = level[place]
+        if sign == 0:
+            return 0, place + 1
+        if sign == 4:
+            return values[level[place + 1]], place + 2
+        first, place = walk(place + 1)
+        if sign == 1:
+            return first + 1, place
+        second, place = walk(place)
+        if sign == 3 and second == 0:
+            return 0, place
+        return max(first, second), place
+    reckoned, end = walk(0)
+    assert end == len(level)
+    return reckoned
+
+
+def part_value(part, values):
+    members, variable, number = part
+    for i, here in enumerate(values):
+        if members >> i & 1 and here == 0:
+            return 0
+    return number + (values[variable - 1] if variable else 0)
+
+
+def parts_of(answer):
+    assert len(answer) == 1 + 3 * answer[0], answer
+    return [tuple(answer[place:place + 3]) for place in range(1, len(answer), 3)]
+
+
+def values_of_sum(n, total):
+    if n == 1:
+        return [[total]]
+    return [[head] + tail for head in range(total + 1) for tail in values_of_sum(n - 1, total - head)]
+
+
+def values_in_order(n, greatest_sum):
+    return [values for total in range(greatest_sum + 1) for values in values_of_sum(n, total)]
+
+
+def greatest_sum_to_try(n, deepest):
+    """No level so deep holds a number above deepest - 1, so one variable at deepest + 1 tells all apart."""
+    return n - 1 + deepest + 1
+
+
+def first_where(ordered, holds):
+    for values in ordered:
+        if holds(values):
+            return [0] + values
+    return [1]
+
+
+def chance(seed):
+    return random.Random(seed)
+
+
+def grown_level(source, n, deepest):
+    if deepest == 1 or source.random() < 0.1:
+        return var(source.randrange(n)) if source.random() < 0.85 else ZERO
+    sign = source.choice((1, 1, 2, 3, 3))
+    if sign == 1:
+        return up(grown_level(source, n, deepest - 1))
+    join = most if sign == 2 else over
+    return join(grown_level(source, n, deepest - 1), grown_level(source, n, deepest - 1))
+
+
+def random_level(source, n, deepest, longest=116):
+    """A level that fits into a row, behind which there's room for four values, or so long as is told."""
+    while True:
+        level = grown_level(source, n, deepest)
+        if len(level) <= longest:
+            return level
