@@ -1,1 +1,1 @@
-"""Levels: their one form, which is at most which, and where two differ."""
+"""Levels: their one form, which is at most which, where two differ, and the least values that meet bounds."""

@@ -14,7 +14,7 @@ PARTS_OF_SIGN = (0, 1, 2, 2, 0)
 DEEPEST = 20
 
 
-class NotLevels(Exception):
+class Misfit(Exception):
     pass
 
 
@@ -29,7 +29,7 @@ class Reader:
 
     def take(self):
         if self.at_end():
-            raise NotLevels()
+            raise Misfit()
         number = self.numbers[self.place]
         self.place += 1
         return number
@@ -37,7 +37,7 @@ class Reader:
     def take_variable(self):
         variable = self.take()
         if variable >= self.variables:
-            raise NotLevels()
+            raise Misfit()
         return variable
 
     # The depths of the levels still to come are kept in a list, so that no nesting makes calls within calls.
@@ -48,7 +48,7 @@ class Reader:
             depth = depths.pop()
             sign = self.take()
             if depth > DEEPEST or sign > VARIABLE:
-                raise NotLevels()
+                raise Misfit()
             depths.extend([depth + 1] * PARTS_OF_SIGN[sign])
             steps.append(VARIABLE + self.take_variable() if sign == VARIABLE else sign)
         return steps
@@ -60,7 +60,7 @@ def read_levels(numbers, variables, how_many):
     while len(levels) < how_many:
         levels.append(reader.take_level())
     if not reader.at_end():
-        raise NotLevels()
+        raise Misfit()
     return levels
 
 
@@ -69,5 +69,11 @@ def read_level_and_values(numbers, variables):
     level = reader.take_level()
     values = numbers[reader.place:]
     if len(values) != variables:
-        raise NotLevels()
+        raise Misfit()
     return (level, values)
+
+
+def read_level_of_bound(variable, numbers, variables):
+    if variable >= variables:
+        raise Misfit()
+    return read_levels(numbers, variables, 1)[0]

@@ -47,12 +47,16 @@ def least_of_row(row):
     return max(row[0], max(row[1:]) + 1)
 
 
-def row_of_level(steps, members, variables):
+def variable_rows(members, variables):
+    return [variable_row(variable, members, variables) for variable in range(variables)]
+
+
+def row_of_level(steps, rows_of_variables):
     # Parts are told behind their sign, so from the end on they are there when the sign is met, the first part on top.
     rows = []
     for step in reversed(steps):
         if step == ZERO:
-            rows.append(zero_row(variables))
+            rows.append(zero_row(len(rows_of_variables)))
         elif step == ONE_MORE:
             rows.append(one_more_row(rows.pop()))
         elif step == MOST:
@@ -62,12 +66,21 @@ def row_of_level(steps, members, variables):
             first = rows.pop()
             rows.append(over_row(first, rows.pop()))
         else:
-            rows.append(variable_row(step - VARIABLE, members, variables))
+            rows.append(rows_of_variables[step - VARIABLE])
     return rows.pop()
 
 
 def table_of_level(steps, variables):
-    return [row_of_level(steps, members, variables) for members in range(1 << variables)]
+    return [row_of_level(steps, variable_rows(members, variables)) for members in range(1 << variables)]
+
+
+def rows_at(tables, members):
+    return [table[members] for table in tables]
+
+
+# The levels put in are reckoned row by row, not written out: what comes of it may be far longer and deeper than each.
+def table_with_put_in(steps, tables):
+    return [row_of_level(steps, rows_at(tables, members)) for members in range(1 << len(tables))]
 
 
 def set_above_zero(values):
@@ -84,4 +97,5 @@ def value_of_row(row, values):
 
 
 def value_of_level(steps, values):
-    return value_of_row(row_of_level(steps, set_above_zero(values), len(values)), values)
+    rows_of_variables = variable_rows(set_above_zero(values), len(values))
+    return value_of_row(row_of_level(steps, rows_of_variables), values)

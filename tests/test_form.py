@@ -1,7 +1,8 @@
 import itertools
 import unittest
 
-from tests.helper import ZERO, ask_in, chance, form, most, over, part_value, parts_of, random_level, reckon, up, var
+from tests.helper import (ZERO, ask_in, chance, form, hold_form, most, over, part_value, parts_of, random_level, reckon,
+                          up, var)
 
 X, Y, Z, W = var(0), var(1), var(2), var(3)
 
@@ -111,15 +112,7 @@ class FormAgainstTheWords(unittest.TestCase):
 
     def test_the_greatest_of_the_parts_is_the_value_and_no_part_can_be_left_out(self):
         for n, level in self.levels():
-            parts = parts_of(ask_in(n, form(level))[0])
-            needed = set()
-            for values in self.grid(n):
-                heights = [part_value(part, values) for part in parts]
-                reached = max(heights, default=0)
-                self.assertEqual(reached, reckon(level, values), (level, values))
-                if reached > 0 and heights.count(reached) == 1:
-                    needed.add(parts[heights.index(reached)])
-            self.assertEqual(needed, set(parts), level)
+            hold_form(self, ask_in(n, form(level))[0], lambda values: reckon(level, values), self.grid(n))
 
     def test_parts_are_parts_and_stand_in_order(self):
         for n, level in self.levels():

@@ -2,7 +2,7 @@
 
 import unittest
 
-from tests.helper import LARGEST, ZERO, ask_in, form, leq, most, over, same, up, value, var
+from tests.helper import LARGEST, ZERO, ask_in, bound, clash, form, leq, most, over, put, same, up, value, var
 
 MISFITS = (
     (),
@@ -72,11 +72,15 @@ class Levels(unittest.TestCase):
         for misfit in MISFITS:
             self.refused(form(misfit), leq(misfit), same(misfit), value(misfit))
             self.refused(leq(ZERO, misfit), same(ZERO, misfit), leq(var(1), misfit), same(var(1), misfit))
+            self.refused(put(misfit), put(ZERO, misfit), put(var(1), var(0), misfit))
+            self.refused(bound(0, misfit), clash(1, misfit))
         for misfit in ((5,), (LARGEST,), (4, 2), (4, LARGEST), (1, 5), (2, 0, 5), (3, 4, 2, 0)):
             self.refused(leq(misfit, ZERO), same(misfit, ZERO), value(misfit, (0, 0)), value(misfit, (1, 1)))
+            self.refused(put(misfit, ZERO, ZERO), put(ZERO, misfit, ZERO), put(ZERO, ZERO, misfit))
 
-    def test_form_takes_just_one_level(self):
-        self.refused(form(ZERO, ZERO), form(var(0), (1,)), form(up(ZERO), (0,)), form(most(ZERO, ZERO), (LARGEST,)))
+    def test_form_bound_and_clash_take_just_one_level(self):
+        for told in ((ZERO, ZERO), (var(0), (1,)), (up(ZERO), (0,)), (most(ZERO, ZERO), (LARGEST,))):
+            self.refused(form(*told), bound(0, *told), clash(0, *told))
 
     def test_leq_and_same_take_just_two_levels(self):
         for call in (leq, same):
@@ -88,14 +92,20 @@ class Levels(unittest.TestCase):
     def test_twenty_deep_is_taken(self):
         for level in of_depth(20):
             self.taken(form(level), leq(level, ZERO), leq(ZERO, level), same(level, level), value(level, (1, 2)))
+            self.taken(put(level, ZERO, ZERO), put(ZERO, level, ZERO), put(var(0), ZERO, level))
+            for call in (bound, clash):
+                self.assertNotIn([-1], ask_in(2, call(0, level), call(1, level)))
 
     def test_twenty_one_deep_is_refused(self):
         for level in of_depth(21):
-            self.refused(form(level), leq(level, ZERO), leq(ZERO, level), same(level, level), value(level, (1, 2)))
+            self.refused(form(level), leq(level, ZERO), leq(ZERO, level), value(level, (1, 2)))
+            self.refused(put(level, ZERO, ZERO), put(ZERO, level, ZERO), put(var(0), ZERO, level))
+            self.refused(same(level, ZERO), same(ZERO, level), bound(0, level), clash(0, level))
 
     def test_far_too_deep_is_refused(self):
         for level in (deep(119), deep(120), (1,) * 120, (2,) * 120, (3,) * 120):
             self.refused(form(level), leq(level), same(level), value(level))
+            self.refused(put(level), bound(0, level), clash(0, level))
 
     def test_a_row_of_120_numbers_is_taken(self):
         level = ZERO
